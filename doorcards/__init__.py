@@ -1,0 +1,1 @@
+"""A desk that makes cards: see doorcards.desk."""

@@ -1,0 +1,86 @@
+"""A card's sixteen bytes, and the tag (SipHash-2-4) that shows they were made by the house's key."""
+
+ALL_BITS = 18446744073709551615
+START_A = 8317987319222330741
+START_B = 7237128888997146477
+START_C = 7816392313619706465
+START_D = 8387220255154660723
+
+
+def card_of(key, kind, place, number, last, serial):
+    head = [kind, place] + bytes_of(number, 2) + bytes_of(last, 2) + bytes_of(serial, 2)
+    return head + tag_of(key, head)
+
+
+def tag_of(key, message):
+    four = start_of(key)
+    for word in words_of(message):
+        four = take_in(four, word)
+    four = [four[0], four[1], four[2] ^ 255, four[3]]
+    four = rounds_of(four, 4)
+    return bytes_of(four[0] ^ four[1] ^ four[2] ^ four[3], 8)
+
+
+def start_of(key):
+    k = number_of(key[:8])
+    l = number_of(key[8:])
+    return [START_A ^ k, START_B ^ l, START_C ^ k, START_D ^ l]
+
+
+def words_of(message):
+    words = []
+    at = 0
+    while at + 8 <= len(message):
+        words.append(number_of(message[at:at + 8]))
+        at = at + 8
+    # The last word tells the length too, so that it is there even where no bytes are left.
+    words.append(number_of(message[at:]) | ((len(message) % 256) << 56))
+    return words
+
+
+def take_in(four, word):
+    mixed = rounds_of([four[0], four[1], four[2], four[3] ^ word], 2)
+    return [mixed[0] ^ word, mixed[1], mixed[2], mixed[3]]
+
+
+def rounds_of(four, times):
+    for turn in range(times):
+        four = round_of(four)
+    return four
+
+
+def round_of(four):
+    a = four[0]
+    b = four[1]
+    c = four[2]
+    d = four[3]
+    a = (a + b) & ALL_BITS
+    b = turned(b, 13) ^ a
+    a = turned(a, 32)
+    c = (c + d) & ALL_BITS
+    d = turned(d, 16) ^ c
+    a = (a + d) & ALL_BITS
+    d = turned(d, 21) ^ a
+    c = (c + b) & ALL_BITS
+    b = turned(b, 17) ^ c
+    c = turned(c, 32)
+    return [a, b, c, d]
+
+
+def turned(x, places):
+    return ((x << places) & ALL_BITS) | (x >> (64 - places))
+
+
+def number_of(row):
+    number = 0
+    for byte in reversed(row):
+        number = number * 256 + byte
+    return number
+
+
+def bytes_of(number, length):
+    row = []
+    for place in range(length):
+        row.append(number % 256)
+        number = number // 256
+    return row
