@@ -1,5 +1,15 @@
 """A card's sixteen bytes, and the tag (SipHash-2-4) that shows they were made by the house's key."""
 
+GUEST_CARD = 1
+STAFF_CARD = 2
+SHUTTING_CARD = 3
+EMERGENCY_CARD = 4
+
+CARD_LENGTH = 16
+HEAD_LENGTH = 8
+MOST_ROOMS = 64
+EMERGENCY_PLACE = 255
+
 ALL_BITS = 18446744073709551615
 START_A = 8317987319222330741
 START_B = 7237128888997146477
@@ -10,6 +20,27 @@ START_D = 8387220255154660723
 def card_of(key, kind, place, number, last, serial):
     head = [kind, place] + bytes_of(number, 2) + bytes_of(last, 2) + bytes_of(serial, 2)
     return head + tag_of(key, head)
+
+
+def is_card(key, row):
+    if len(row) != CARD_LENGTH:
+        return False
+    # A right tag alone is not enough: no card has another kind, or another place for its kind.
+    if not is_place(row[0], row[1]):
+        return False
+    return row[HEAD_LENGTH:] == tag_of(key, row[:HEAD_LENGTH])
+
+
+def is_place(kind, place):
+    if kind == GUEST_CARD or kind == SHUTTING_CARD:
+        return place < MOST_ROOMS
+    if kind == STAFF_CARD:
+        return place > 0
+    return kind == EMERGENCY_CARD and place == EMERGENCY_PLACE
+
+
+def parts_of(card):
+    return [card[0], card[1], number_of(card[2:4]), number_of(card[4:6]), number_of(card[6:8])]
 
 
 def tag_of(key, message):

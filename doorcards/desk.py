@@ -1,6 +1,7 @@
 """The desk: its day, its rooms and their stays, and the calls that are made on it."""
 
-from doorcards.card import card_of
+from doorcards.card import EMERGENCY_CARD, EMERGENCY_PLACE, GUEST_CARD, MOST_ROOMS, SHUTTING_CARD, STAFF_CARD
+from doorcards.card import card_of, is_card, parts_of
 
 BEGIN = 0
 ROOM = 1
@@ -10,7 +11,13 @@ COPY = 4
 LOST = 5
 LONGER = 6
 LEAVE = 7
+SHUT = 8
+STAFF = 9
+RECALL = 10
+NEED = 11
 WHOSE = 12
+STAY = 13
+FREE = 14
 
 # How many whole numbers stand behind each call's own; begin's and whose's is how long their row is.
 NUMBERS_BEHIND = (1, 1, 1, 2, 1, 1, 2, 1, 1, 2, 0, 1, 1, 1, 0, 0)
@@ -21,19 +28,15 @@ HAS_STAY = -15
 WRONG_VALUE = -22
 NO_MORE = -28
 NO_DESK = -61
+NO_CARD = -71
 
 KEY_LENGTH = 16
-MOST_ROOMS = 64
 LAST_ZONE = 7
+ALL_ZONES = 255
 LAST_DAY = 65535
 LAST_NUMBER = 65535
+LAST_ROUND = 65535
 MOST_CARDS = 65535
-
-GUEST = 1
-
-
-class UnknownCall(ValueError):
-    pass
 
 
 class Room:
@@ -85,13 +88,31 @@ def answer_call(line, call, given):
         return begin(line, given[1:])
     if line.desk is None:
         return [NO_DESK]
+    if is_at_room(call):
+        return answer_at_room(line.desk, call, given)
+    return answer_at_desk(line.desk, call, given)
+
+
+def is_at_room(call):
+    return call in (COME, COPY, LOST, LONGER, LEAVE, SHUT, STAY)
+
+
+def answer_at_desk(desk, call, given):
     if call == ROOM:
-        return add_room(line.desk, given[0])
+        return add_room(desk, given[0])
     if call == DAY:
-        return set_day(line.desk, given[0])
-    if call > LEAVE:
-        raise UnknownCall(f"call {call} is not there")
-    return answer_at_room(line.desk, call, given)
+        return set_day(desk, given[0])
+    if call == STAFF:
+        return staff_card(desk, given[0], given[1])
+    if call == RECALL:
+        return recall(desk)
+    if call == NEED:
+        return emergency_card(desk, given[0])
+    if call == WHOSE:
+        return whose(desk, given[1:])
+    if call == FREE:
+        return free_rooms(desk)
+    return state(desk)
 
 
 def answer_at_room(desk, call, given):
@@ -100,6 +121,8 @@ def answer_at_room(desk, call, given):
         return [NO_ROOM]
     if call == COME:
         return come(desk, place, given[1])
+    if call == SHUT:
+        return shut(desk, place)
     # All others are about a stay, and refuse a room without one ahead of all else.
     if desk.rooms[place].stay_last is None:
         return [NO_STAY]
@@ -109,7 +132,9 @@ def answer_at_room(desk, call, given):
         return lose_card(desk, place)
     if call == LONGER:
         return stay_longer(desk, place, given[1])
-    return leave(desk, place)
+    if call == LEAVE:
+        return leave(desk, place)
+    return tell_stay(desk, place)
 
 
 def begin(line, key):
@@ -146,7 +171,7 @@ def is_over(room, day):
 
 def come(desk, place, last):
     room = desk.rooms[place]
-    if last < desk.day or last > LAST_DAY:
+    if is_wrong_last(desk, last):
         return [WRONG_VALUE]
     if room.stay_last is not None:
         return [HAS_STAY]
@@ -187,6 +212,80 @@ def leave(desk, place):
     return [0]
 
 
+def shut(desk, place):
+    room = desk.rooms[place]
+    if room.stay_last is not None:
+        return [HAS_STAY]
+    if no_more_cards(desk) or no_more_numbers(room):
+        return [NO_MORE]
+    room.number = room.number + 1
+    return make_card(desk, SHUTTING_CARD, place, room.number, desk.day)
+
+
+def staff_card(desk, zones, last):
+    if zones < 1 or zones > ALL_ZONES or is_wrong_last(desk, last):
+        return [WRONG_VALUE]
+    if no_more_cards(desk):
+        return [NO_MORE]
+    return make_card(desk, STAFF_CARD, zones, desk.staff_round, last)
+
+
+def recall(desk):
+    if desk.staff_round >= LAST_ROUND:
+        return [NO_MORE]
+    desk.staff_round = desk.staff_round + 1
+    return [desk.staff_round]
+
+
+def emergency_card(desk, last):
+    if is_wrong_last(desk, last):
+        return [WRONG_VALUE]
+    if no_more_cards(desk):
+        return [NO_MORE]
+    return make_card(desk, EMERGENCY_CARD, EMERGENCY_PLACE, desk.staff_round, last)
+
+
+def whose(desk, row):
+    if not is_card(desk.key, row):
+        return [NO_CARD]
+    parts = parts_of(row)
+    good = is_good(desk, parts[0], parts[1], parts[2], parts[3])
+    return [1 if good else 0] + parts
+
+
+def is_good(desk, kind, place, number, last):
+    if last < desk.day:
+        return False
+    if kind == STAFF_CARD or kind == EMERGENCY_CARD:
+        return number == desk.staff_round
+    # A card can tell of a room that this desk never had: one made ahead of a new begin with the same key.
+    if place >= len(desk.rooms):
+        return False
+    room = desk.rooms[place]
+    if kind == GUEST_CARD and room.stay_last is None:
+        return False
+    return number == room.number
+
+
+def tell_stay(desk, place):
+    room = desk.rooms[place]
+    return [room.stay_last, room.number, room.zone]
+
+
+def free_rooms(desk):
+    places = [place for place, room in enumerate(desk.rooms) if room.stay_last is None]
+    return [len(places)] + places
+
+
+def state(desk):
+    stays = [room for room in desk.rooms if room.stay_last is not None]
+    return [len(desk.rooms), len(stays), desk.day, desk.staff_round, desk.serial]
+
+
+def is_wrong_last(desk, last):
+    return last < desk.day or last > LAST_DAY
+
+
 def no_more_cards(desk):
     return desk.serial >= MOST_CARDS
 
@@ -197,7 +296,7 @@ def no_more_numbers(room):
 
 def guest_card(desk, place):
     room = desk.rooms[place]
-    return make_card(desk, GUEST, place, room.number, room.stay_last)
+    return make_card(desk, GUEST_CARD, place, room.number, room.stay_last)
 
 
 def make_card(desk, kind, place, number, last):

@@ -3,7 +3,7 @@
 The tag is reckoned here from the document's words, with nothing of the program's own code.
 """
 
-from doorcards.desk import answers
+from doorcards.desk import Desk, Line, answer_call, answers
 
 KEY = list(range(16))
 OTHER_KEY = [128, 1, 127, 254, 0, 255, 16, 32, 48, 64, 80, 96, 112, 128, 159, 160]
@@ -47,6 +47,38 @@ def longer(place, last):
 
 def leave(place):
     return [7, place]
+
+
+def shut(place):
+    return [8, place]
+
+
+def staff(zones, last):
+    return [9, zones, last]
+
+
+def recall():
+    return [10]
+
+
+def need(last):
+    return [11, last]
+
+
+def whose(card):
+    return [12, len(card)] + list(card)
+
+
+def stay(place):
+    return [13, place]
+
+
+def free():
+    return [14]
+
+
+def state():
+    return [15]
 
 
 def ask(*calls):
@@ -121,7 +153,47 @@ def reckoned_tag(key, message):
     return list((n["a"] ^ n["b"] ^ n["c"] ^ n["d"]).to_bytes(8, "little"))
 
 
+def forged(kind, place, number, last, serial, key=None):
+    """Sixteen bytes with the right tag by the key, whether a card may have such parts or not."""
+    head = [kind, place, number % 256, number // 256, last % 256, last // 256, serial % 256, serial // 256]
+    return head + reckoned_tag(KEY if key is None else key, head)
+
+
 def guest(place, number, last, serial, key=None):
     """What a call answers that makes this guest's card: its serial number, then the card."""
-    head = [1, place, number % 256, number // 256, last % 256, last // 256, serial % 256, serial // 256]
-    return [serial] + head + reckoned_tag(KEY if key is None else key, head)
+    return [serial] + forged(1, place, number, last, serial, key)
+
+
+def of_staff(zones, number, last, serial, key=None):
+    return [serial] + forged(2, zones, number, last, serial, key)
+
+
+def shutting(place, number, last, serial, key=None):
+    return [serial] + forged(3, place, number, last, serial, key)
+
+
+def emergency(number, last, serial, key=None):
+    return [serial] + forged(4, 255, number, last, serial, key)
+
+
+def desk_with(serial, number, stay_last, staff_round=0):
+    """A line whose desk, with one room, made many cards already: more than the calls of one list can make."""
+    line = Line()
+    line.desk = Desk(list(KEY))
+    ask_one(line, room())
+    line.desk.serial = serial
+    line.desk.staff_round = staff_round
+    line.desk.rooms[0].number = number
+    line.desk.rooms[0].stay_last = stay_last
+    return line
+
+
+def ask_one(line, call):
+    return answer_call(line, call[0], call[1:])
+
+
+def kept_by(line):
+    """All that the line's desk keeps, as values that later calls don't change."""
+    desk = line.desk
+    rooms = [(one.zone, one.number, one.stay_last) for one in desk.rooms]
+    return (list(desk.key), desk.day, desk.staff_round, desk.serial, rooms)

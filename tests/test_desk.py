@@ -3,8 +3,9 @@
 import unittest
 
 from doorcards.desk import answers
-from tests.helper import GREATEST, KEY, ONE_OF_EACH, OTHER_KEY, ask, begin, come, copy, day, guest, last_answer, leave
-from tests.helper import longer, lost, room
+from tests.helper import GREATEST, KEY, ONE_OF_EACH, OTHER_KEY, ask, begin, come, copy, day, emergency, free, guest
+from tests.helper import last_answer, leave, longer, lost, need, of_staff, recall, room, shut, shutting, staff, state
+from tests.helper import stay, whose
 
 
 class BeginTest(unittest.TestCase):
@@ -30,12 +31,13 @@ class BeginTest(unittest.TestCase):
 
     def test_no_desk_ahead_of_every_other_refusal(self):
         for call in (room(8), day(65536), come(0, 65536), come(GREATEST, GREATEST), copy(0), lost(64),
-                     longer(0, 65536), longer(GREATEST, 0), leave(GREATEST)):
+                     longer(0, 65536), longer(GREATEST, 0), leave(GREATEST), shut(GREATEST), staff(0, 65536),
+                     need(65536), whose([]), whose([1] * 40), stay(64)):
             self.assertEqual(ask(call), [[-61]])
 
     def test_a_call_without_a_desk_changes_nothing(self):
-        told = ask(room(), day(9), come(0, 3), begin(), copy(0), room(), come(0, 0))
-        self.assertEqual(told, [[-61], [-61], [-61], [0], [-2], [0], guest(0, 1, 0, 0)])
+        told = ask(room(), day(9), come(0, 3), recall(), staff(1, 9), begin(), state(), copy(0), room(), come(0, 0))
+        self.assertEqual(told, [[-61]] * 5 + [[0], [0] * 5, [-2], [0], guest(0, 1, 0, 0)])
 
     def test_begin_again_is_a_new_desk(self):
         told = ask(begin(), room(), room(), day(7), come(0, 9), lost(0),
@@ -110,10 +112,16 @@ class DayTest(unittest.TestCase):
 
 
 class InterfaceTest(unittest.TestCase):
-    CALLS = begin() + room(3) + come(0, 4) + copy(0) + come(0, 4) + copy(1) + leave(0) + day(2)
+    # Each of the sixteen calls, and some that are refused.
+    CALLS = (begin() + room(3) + come(0, 4) + copy(0) + come(0, 4) + copy(1) + lost(0) + longer(0, 5) + stay(0)
+             + whose(guest(0, 2, 5, 3)[1:]) + whose([7] * 15) + leave(0) + day(2) + shut(0) + staff(5, 9) + recall()
+             + need(8) + free() + state())
 
     def test_counts_ahead_of_each_answer(self):
-        expected = [1, 0, 1, 0] + [17] + guest(0, 1, 4, 0) + [17] + guest(0, 1, 4, 1) + [1, -15, 1, -2, 1, 0, 1, 0]
+        expected = ([1, 0, 1, 0] + [17] + guest(0, 1, 4, 0) + [17] + guest(0, 1, 4, 1) + [1, -15, 1, -2]
+                    + [17] + guest(0, 2, 4, 2) + [17] + guest(0, 2, 5, 3) + [3, 5, 2, 3] + [6, 1, 1, 0, 2, 5, 3]
+                    + [1, -71, 1, 0, 1, 0] + [17] + shutting(0, 3, 2, 4) + [17] + of_staff(5, 0, 9, 5) + [1, 1]
+                    + [17] + emergency(1, 8, 6) + [2, 1, 0] + [5, 1, 0, 2, 1, 7])
         self.assertEqual(answers(self.CALLS), expected)
 
     def test_one_call(self):
@@ -124,6 +132,8 @@ class InterfaceTest(unittest.TestCase):
     def test_a_row_that_looks_like_calls(self):
         self.assertEqual(ask([0, 4, 1, 2, 1, 3], room(), begin([0] * 16), room()), [[-22], [-61], [0], [0]])
         self.assertEqual(ask([0, 0], [0, 0], [12, 2, 0, 16], begin(), room()), [[-22], [-22], [-61], [0], [0]])
+        self.assertEqual(ask(begin(), [12, 0], [12, 3, 12, 10, 10], [12, 1, 15], recall()),
+                         [[0], [-71], [-71], [-71], [1]])
 
     def test_what_is_handed_in_is_not_changed(self):
         calls = list(self.CALLS)
@@ -163,6 +173,8 @@ class InterfaceTest(unittest.TestCase):
     def test_as_many_numbers_as_there_may_be(self):
         told = ask(*[begin([7] * 40)] * 700, begin(), room())
         self.assertEqual(told, [[-22]] * 700 + [[0], [0]])
+        told = ask(begin(), *[whose([7] * 40)] * 700, state())
+        self.assertEqual(told, [[0]] + [[-71]] * 700 + [[0] * 5])
 
 
 if __name__ == "__main__":

@@ -1,11 +1,10 @@
 """Point 3: come, copy, lost, longer, leave; refusals, their order, and that they change nothing."""
 
-import random
 import unittest
 
-from doorcards.desk import Desk, Line, UnknownCall, answer_call, answers
-from tests.helper import GREATEST, KEY, ONE_OF_EACH, ask, begin, come, copy, day, guest, last_answer, leave, longer
-from tests.helper import lost, room
+from doorcards.desk import Line
+from tests.helper import GREATEST, KEY, ask, ask_one, begin, come, copy, day, desk_with, guest, kept_by, last_answer
+from tests.helper import leave, longer, lost, room
 
 TWO_ROOMS = (begin(), room(), room())
 
@@ -121,32 +120,11 @@ class StayTest(unittest.TestCase):
         self.assertEqual(told[5:], [[0], [-6], guest(1, 1, 6, 2)])
 
 
-def desk_with(serial, number, stay_last):
-    """A line whose desk made many cards already: more than the calls of one list can make."""
-    line = Line()
-    line.desk = Desk(list(KEY))
-    ask_one(line, room())
-    line.desk.serial = serial
-    line.desk.rooms[0].number = number
-    line.desk.rooms[0].stay_last = stay_last
-    return line
-
-
-def ask_one(line, call):
-    return answer_call(line, call[0], call[1:])
-
-
-def state_of(line):
-    desk = line.desk
-    rooms = [(one.zone, one.number, one.stay_last) for one in desk.rooms]
-    return (list(desk.key), desk.day, desk.staff_round, desk.serial, rooms)
-
-
 class NoMoreTest(unittest.TestCase):
     def assert_refused(self, line, call, refusal):
-        before = state_of(line)
+        before = kept_by(line)
         self.assertEqual(ask_one(line, call), [refusal])
-        self.assertEqual(state_of(line), before)
+        self.assertEqual(kept_by(line), before)
 
     def test_the_last_card(self):
         for stay_last, call, answer in ((None, come(0, 5), guest(0, 8, 5, 65534)), (5, copy(0), guest(0, 7, 5, 65534)),
@@ -200,9 +178,9 @@ class NewDeskTest(unittest.TestCase):
         line = Line()
         self.assertIsNone(line.desk)
         ask_one(line, begin())
-        self.assertEqual(state_of(line), (KEY, 0, 0, 0, []))
+        self.assertEqual(kept_by(line), (KEY, 0, 0, 0, []))
         ask_one(line, room(5))
-        self.assertEqual(state_of(line), (KEY, 0, 0, 0, [(5, 0, None)]))
+        self.assertEqual(kept_by(line), (KEY, 0, 0, 0, [(5, 0, None)]))
 
 
 class RefusalsTest(unittest.TestCase):
@@ -210,84 +188,19 @@ class RefusalsTest(unittest.TestCase):
         line = desk_with(9, 7, 5)
         ask_one(line, room(4))
         ask_one(line, day(3))
-        before = state_of(line)
+        before = kept_by(line)
         for call in (begin([1] * 15), room(8), day(2), day(65536), come(2, 5), come(0, 5), come(1, 2), come(1, 65536),
                      copy(1), copy(2), lost(1), lost(2), longer(0, 4), longer(0, 65536), longer(1, 9), longer(2, 9),
                      leave(1), leave(2)):
             answer = ask_one(line, call)
             self.assertEqual(len(answer), 1)
             self.assertLess(answer[0], 0)
-            self.assertEqual(state_of(line), before)
+            self.assertEqual(kept_by(line), before)
 
     def test_refused_calls_use_up_no_serial_number(self):
         told = ask(*TWO_ROOMS, come(0, 5), come(0, 5), come(2, 5), come(1, 65536), copy(1), lost(1), longer(1, 6),
                    longer(0, 4), leave(1), copy(0))
         self.assertEqual(told[-1], guest(0, 1, 5, 1))
-
-    def test_calls_that_are_not_there(self):
-        for number in range(8, 16):
-            with self.assertRaises(UnknownCall):
-                answers(begin() + room() + ONE_OF_EACH[number])
-
-
-def random_call(source):
-    place = source.choice([0, 0, 1, 2, 3, 4, GREATEST])
-    last = source.choice([source.randrange(40), source.randrange(40), 65535, 65536])
-    return source.choice([
-        room(source.randrange(10)), day(source.randrange(20)), come(place, last), come(place, last), copy(place),
-        lost(place), longer(place, last), leave(place), begin([3] * source.choice([15, 17])),
-    ])
-
-
-class WhatHoldsTest(unittest.TestCase):
-    """What holds, a, b and d, over many lists of calls: the same ones each time, by a fixed seed."""
-
-    def setUp(self):
-        self.lists = []
-        for seed in range(40):
-            source = random.Random(seed)
-            self.lists.append([begin()] + [random_call(source) for _ in range(200)])
-
-    def test_cards_have_the_right_tag_and_a_new_serial_number(self):
-        for calls in self.lists:
-            cards = [answer for answer in ask(*calls) if len(answer) == 17]
-            self.assertTrue(cards)
-            for serial, card in enumerate(cards):
-                number = card[3] + 256 * card[4]
-                last = card[5] + 256 * card[6]
-                self.assertEqual(card, guest(card[2], number, last, serial))
-
-    def test_numbers_never_fall_and_new_ones_are_greater(self):
-        for calls in self.lists:
-            newest = {}
-            for call, answer in zip(calls, ask(*calls)):
-                if len(answer) == 17:
-                    one_more = 1 if call[0] in (3, 5) else 0
-                    newest[call[1]] = newest.get(call[1], 0) + one_more
-                    self.assertEqual(answer[3] + 256 * answer[4], newest[call[1]])
-
-    def test_without_what_is_refused_all_others_answer_the_same(self):
-        for calls in self.lists:
-            told = list(zip(calls, ask(*calls)))
-            good = [(call, answer) for call, answer in told if answer[0] >= 0]
-            self.assertLess(len(good), len(told))
-            self.assertEqual(ask(*[call for call, answer in good]), [answer for call, answer in good])
-
-    def test_nobody_comes_into_a_room_with_a_stay(self):
-        for calls in self.lists:
-            stays = {}
-            for call, answer in zip(calls, ask(*calls)):
-                if answer[0] < 0:
-                    continue
-                if call[0] == 2:
-                    stays = {place: last for place, last in stays.items() if last >= call[1]}
-                elif call[0] == 3:
-                    self.assertNotIn(call[1], stays)
-                    stays[call[1]] = call[2]
-                elif call[0] == 6:
-                    stays[call[1]] = call[2]
-                elif call[0] == 7:
-                    stays.pop(call[1])
 
 
 if __name__ == "__main__":
